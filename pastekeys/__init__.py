@@ -1,0 +1,1 @@
+"""Pastekeys: texts that are typed and pasted."""
