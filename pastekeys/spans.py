@@ -66,9 +66,16 @@ def key_at(spans, place):
     at = len(spans) - 1
     while place < spans[at].begin or spans[at].key is None:
         if place >= spans[at].begin:
-            place = spans[at].source + (place - spans[at].begin) % spans[at].width
+            _, rest = divmod(place - spans[at].begin, spans[at].width)
+            place = spans[at].source + rest
         at = at - 1
     return spans[at].key + place - spans[at].begin
+
+
+def written_place(spans, key):
+    """Return the place at which a key was written, which is its first one."""
+    written = [span for span in spans if span.key is not None and span.key <= key]
+    return written[-1].begin + key - written[-1].key
 
 
 def moved_step(step, shift):
