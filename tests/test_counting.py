@@ -77,7 +77,8 @@ class LongTexts(unittest.TestCase):
     def test_counts(self):
         self.assertEqual(LARGEST.size, 10 ** 18)
         self.assertEqual(key_counts(LARGEST, 0, 10 ** 18 - 1), [2 * 10 ** 17, 8 * 10 ** 17])
-        self.assertEqual(key_counts(LARGEST, 10 ** 9 + 1, 10 ** 17), [2 * 10 ** 16 - 2 * 10 ** 8, 8 * (10 ** 16 - 10 ** 8)])
+        self.assertEqual(key_counts(LARGEST, 10 ** 9 + 1, 10 ** 17),
+                         [2 * 10 ** 16 - 2 * 10 ** 8, 8 * (10 ** 16 - 10 ** 8)])
         self.assertEqual(letter_counts(LARGEST, 10 ** 18 - 4, 10 ** 18 - 1), {"b": 4})
 
     def test_at_most_1000_letters(self):
